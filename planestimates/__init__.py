@@ -1,0 +1,1 @@
+"""Estimates of what a plan costs at least."""

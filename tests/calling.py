@@ -1,0 +1,57 @@
+"""Writes calls as numbers, and takes an answer apart again."""
+
+from planestimates.estimates import answers
+
+HUGE = 4294967295
+
+
+def begins(facts, wanted):
+    return [0, facts, wanted]
+
+
+def told(*numbers):
+    return [1, len(numbers)] + list(numbers)
+
+
+def act(needs, brings, cost, takes=0):
+    return told(needs, 0, brings, takes, cost)
+
+
+def goal(wanted):
+    return [2, wanted]
+
+
+def dearest(state):
+    return [3, state]
+
+
+def together(state):
+    return [4, state]
+
+
+def flat(calls):
+    return [number for call in calls for number in call]
+
+
+def split(numbers):
+    parts = []
+    at = 0
+    while at < len(numbers):
+        end = at + 1 + numbers[at]
+        if numbers[at] < 1 or end > len(numbers):
+            raise AssertionError("a count doesn't fit in %r" % (numbers,))
+        parts.append(numbers[at + 1:end])
+        at = end
+    return parts
+
+
+def ask(*calls):
+    """What each call is answered; here each answer is one number."""
+    parts = split(answers(flat(calls)))
+    if len(parts) != len(calls) or any(len(part) != 1 for part in parts):
+        raise AssertionError("not one number a call: %r" % (parts,))
+    return [part[0] for part in parts]
+
+
+def last(*calls):
+    return ask(*calls)[-1]
