@@ -1,14 +1,19 @@
 """The calls on one house, as one flat list of numbers in and one out."""
 
+from planestimates.cuts import cuts_from
 from planestimates.house import House, is_set_of
+from planestimates.plans import kept_from, real_from
 from planestimates.refusals import CANNOT_BE_HAD, WRONG
-from planestimates.worth import dearest_of, together_of, worths_from
+from planestimates.worth import dearest_of, estimate_from, together_of, values_from
 
 BEGINS = 0
 ACT = 1
 GOAL = 2
 DEAREST = 3
 TOGETHER = 4
+KEPT = 5
+CUTS = 6
+REAL = 7
 
 
 def answers(calls):
@@ -48,16 +53,23 @@ def answer_from_state(house, number, state):
     """The answer to a call that hands over a state and changes nothing."""
     if not is_set_of(house.facts, state):
         return [WRONG]
+    answer = reckoned(house, number, state)
+    if answer is None:
+        return [CANNOT_BE_HAD]
+    return answer
+
+
+def reckoned(house, number, state):
+    """What such a call asks for, number by number; None if what's wanted can't be had."""
     if number == DEAREST:
-        return [estimate(house, state, dearest_of)]
+        return estimate_from(house, state, dearest_of)
     if number == TOGETHER:
-        return [estimate(house, state, together_of)]
-    raise NotImplementedError("there is no such call yet")
-
-
-def estimate(house, state, worth_of_row):
-    worths = worths_from(house.facts, house.acts, state, worth_of_row)
-    worth = worth_of_row(worths, house.wanted)
-    if worth is None:
-        return CANNOT_BE_HAD
-    return worth
+        return estimate_from(house, state, together_of)
+    if number == KEPT:
+        return kept_from(house, state)
+    if number == CUTS:
+        return cuts_from(house, state)
+    if number == REAL:
+        return real_from(house, state)
+    # No number is handed in but those of the calls, and values, 8, is the last of them.
+    return values_from(house, state)

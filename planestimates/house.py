@@ -17,6 +17,17 @@ class Act:
         self.takes = takes
         self.cost = cost
 
+    def may_be_done(self, state):
+        return state & self.needs == self.needs
+
+    def behind(self, state):
+        # What an act both takes away and brings is so behind it.
+        return (state & ~self.takes) | self.brings
+
+    def behind_if_kept(self, state):
+        """The state behind the act as if it took nothing away."""
+        return state | self.brings
+
 
 class House:
     """At its beginning there is one fact, nothing is wanted, and there is no act."""

@@ -40,3 +40,23 @@ def offer(worths, row, price):
     for fact in members(row):
         if worths[fact] is None or worths[fact] > price:
             worths[fact] = price
+
+
+def estimate_from(house, state, worth_of_row):
+    """What the wanted facts are worth, alone in a list; None if they can't be had."""
+    worths = worths_from(house.facts, house.acts, state, worth_of_row)
+    worth = worth_of_row(worths, house.wanted)
+    if worth is None:
+        return None
+    return [worth]
+
+
+def values_from(house, state):
+    """How many facts there are, then for each 1 and what it's worth, or 0 if it can't be had."""
+    answer = [house.facts]
+    for worth in worths_from(house.facts, house.acts, state, dearest_of):
+        if worth is None:
+            answer.append(0)
+        else:
+            answer.extend([1, worth])
+    return answer

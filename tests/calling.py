@@ -29,6 +29,22 @@ def together(state):
     return [4, state]
 
 
+def kept(state):
+    return [5, state]
+
+
+def cuts(state):
+    return [6, state]
+
+
+def real(state):
+    return [7, state]
+
+
+def values(state):
+    return [8, state]
+
+
 def flat(calls):
     return [number for call in calls for number in call]
 
@@ -45,13 +61,25 @@ def split(numbers):
     return parts
 
 
+def parts(*calls):
+    """What each call is answered, a list each."""
+    found = split(answers(flat(calls)))
+    if len(found) != len(calls):
+        raise AssertionError("not one answer a call: %r" % (found,))
+    return found
+
+
 def ask(*calls):
-    """What each call is answered; here each answer is one number."""
-    parts = split(answers(flat(calls)))
-    if len(parts) != len(calls) or any(len(part) != 1 for part in parts):
-        raise AssertionError("not one number a call: %r" % (parts,))
-    return [part[0] for part in parts]
+    """What each call is answered, if each answer is one number."""
+    found = parts(*calls)
+    if any(len(part) != 1 for part in found):
+        raise AssertionError("not one number a call: %r" % (found,))
+    return [part[0] for part in found]
 
 
 def last(*calls):
     return ask(*calls)[-1]
+
+
+def last_part(*calls):
+    return parts(*calls)[-1]

@@ -20,6 +20,11 @@ OWN_NAMES_OF_PYTHON = set("""
     ord repr any all divmod Exception ValueError TypeError KeyError IndexError LookupError ZeroDivisionError
     ArithmeticError OverflowError RuntimeError NotImplementedError AttributeError StopIteration
 """.split())
+OWN_METHODS_OF_PYTHON = set("""
+    append clear copy count endswith extend find get index insert isalnum isalpha isdigit islower isspace isupper
+    items join keys ljust lower lstrip partition pop remove replace reverse rfind rjust rpartition rsplit rstrip
+    setdefault split splitlines startswith strip update upper values zfill bit_length
+""".split())
 WORDS_THAT_STAND_NOWHERE = re.compile(r"""
     \b(type|typing|typing_extensions|enum|Enum|IntEnum|StrEnum|Flag|IntFlag|Generic|Protocol|ABC|ABCMeta|namedtuple
     |NamedTuple|TypedDict|TYPE_CHECKING|abstractmethod)\b|dataclass|overload|contextmanager
@@ -84,6 +89,14 @@ class Language(unittest.TestCase):
                     self.assertNotIn(node.id, dir(builtins), (name, node.lineno))
             if isinstance(node, ast.arg):
                 self.assertNotIn(node.arg, dir(builtins), (name, node.lineno))
+
+    def test_methods(self):
+        own = {node.name for _, node in nodes() if isinstance(node, ast.FunctionDef)}
+        kept = {node.attr for _, node in nodes() if isinstance(node, ast.Attribute) and isinstance(node.ctx, ast.Store)}
+        for name, node in nodes():
+            if isinstance(node, ast.Attribute):
+                self.assertIn(node.attr, own | kept | OWN_METHODS_OF_PYTHON, (name, node.lineno))
+        self.assertEqual(own & kept, set())
 
 
 if __name__ == "__main__":
